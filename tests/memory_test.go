@@ -2,6 +2,8 @@ package tests
 
 import (
 	"math"
+	"math/rand"
+	"reflect"
 	"slices"
 	"testing"
 
@@ -11,6 +13,8 @@ import (
 // loan is memory that arguments lie in, with spare room behind each of them.
 type loan struct {
 	rooms [][]int
+	// stays says, of each list that is not of limbs, whether it is as it was.
+	stays []func() bool
 }
 
 // big lays a number into memory of its own; what stands behind it must stay, too.
@@ -24,6 +28,37 @@ func (l *loan) big(a impl.Big) impl.Big {
 func (l *loan) dec(d impl.Dec) impl.Dec {
 	d.Num = l.big(d.Num)
 	return d
+}
+
+func (l *loan) value(v impl.Value) impl.Value {
+	v.Num = l.dec(v.Num)
+	return v
+}
+
+func (l *loan) row(row []impl.Value) []impl.Value {
+	list := make([]impl.Value, len(row))
+	for i, v := range row {
+		list[i] = l.value(v)
+	}
+	return lent(l, list, textValue("spare"))
+}
+
+// lent lays a list into memory of its own; what stands behind it must stay, too.
+func lent[T any](l *loan, list []T, spare T) []T {
+	room := append(slices.Clone(list), spare, spare, spare)
+	before := slices.Clone(room)
+	l.stays = append(l.stays, func() bool { return reflect.DeepEqual(room, before) })
+	return room[:len(list)]
+}
+
+// isKept says whether all that was lent is as it was.
+func (l *loan) isKept(before [][]int) bool {
+	for _, stays := range l.stays {
+		if !stays() {
+			return false
+		}
+	}
+	return sameLists(l.rooms, before)
 }
 
 func copied(lists [][]int) [][]int {
@@ -51,7 +86,7 @@ func asked(t *testing.T, l *loan, call func() []impl.Big, what ...any) {
 	for _, a := range call() {
 		lists = append(lists, a.Limbs[:cap(a.Limbs)])
 	}
-	if !sameLists(l.rooms, before) {
+	if !l.isKept(before) {
 		t.Fatal("writes into an argument:", what)
 	}
 	for i, list := range lists {
@@ -59,7 +94,7 @@ func asked(t *testing.T, l *loan, call func() []impl.Big, what ...any) {
 		for j := range list {
 			list[j], want[i][j] = -1, -1
 		}
-		if !sameLists(l.rooms, before) {
+		if !l.isKept(before) {
 			t.Fatal("answers with memory of an argument:", what)
 		}
 		if !sameLists(lists, want) {
@@ -161,4 +196,117 @@ func TestAnswersOfTwoCallsAreApart(t *testing.T) {
 		l := &loan{rooms: [][]int{call().Limbs}}
 		asked(t, l, func() []impl.Big { return []impl.Big{call(), call()} }, name)
 	}
+}
+
+// bigsOf is the numbers of values, those in the spare room behind them, too.
+func bigsOf(list []impl.Value) []impl.Big {
+	var bigs []impl.Big
+	for _, v := range list[:cap(list)] {
+		bigs = append(bigs, v.Num.Num)
+	}
+	return bigs
+}
+
+// valueCalls is each function of chapters 4 to 6 that takes values.
+func valueCalls(a, b impl.Value, x impl.Type) map[string]func() []impl.Big {
+	return map[string]func() []impl.Big{
+		"ValueOk":    func() []impl.Big { impl.ValueOk(a); return nil },
+		"ValueFits":  func() []impl.Big { impl.ValueFits(a, x); return nil },
+		"ValueCmp":   func() []impl.Big { impl.ValueCmp(a, b); return nil },
+		"ValueOrder": func() []impl.Big { impl.ValueOrder(a, b); return nil },
+		"ValueCast":  func() []impl.Big { v, _ := impl.ValueCast(a, x); return []impl.Big{v.Num.Num} },
+		"ValuePut":   func() []impl.Big { impl.ValuePut(a); return nil },
+		"KeyPut":     func() []impl.Big { impl.KeyPut(a, false); impl.KeyPut(a, true); return nil },
+	}
+}
+
+// rowCalls is each function of chapters 5 and 6 that takes lists.
+func rowCalls(types []impl.Type, a, b []impl.Value, cols []int, downs []bool, text string) map[string]func() []impl.Big {
+	return map[string]func() []impl.Big{
+		"KeyAll":   func() []impl.Big { impl.KeyAll(a, downs); return nil },
+		"KeyRead":  func() []impl.Big { row, _ := impl.KeyRead(text, downs); return bigsOf(row) },
+		"RowOk":    func() []impl.Big { impl.RowOk(types, a); return nil },
+		"RowPut":   func() []impl.Big { impl.RowPut(types, a); return nil },
+		"RowGet":   func() []impl.Big { row, _ := impl.RowGet(types, text); return bigsOf(row) },
+		"RowOrder": func() []impl.Big { impl.RowOrder(a, b, cols, downs); return nil },
+	}
+}
+
+func TestValuesKeepMemoryApart(t *testing.T) {
+	types := []impl.Type{{Kind: 1}, {Kind: 2, Digits: 30, Scale: 12}, {Kind: 2, Digits: 30}, {Kind: 2, Digits: 1}, {Kind: 3}, {Kind: 4}, {Kind: 5}, {}, {Kind: 2}, {Kind: 9}}
+	list := append(someValues(), badValues()...)
+	for i, a := range list {
+		for j := range types {
+			l := &loan{}
+			x, y := l.value(a), l.value(list[(i*31+j)%len(list)])
+			for name, call := range valueCalls(x, y, types[j]) {
+				asked(t, l, call, name, a, y, types[j])
+			}
+			for name, call := range valueCalls(x, x, types[j]) {
+				asked(t, l, call, name, a, "with itself", types[j])
+			}
+		}
+	}
+}
+
+func TestRowsKeepMemoryApart(t *testing.T) {
+	list := append(fewValues(), badValues()...)
+	types := append([]impl.Type{{Kind: 2, Digits: 30}, {Kind: 2, Digits: 12, Scale: 1}, {Kind: 5}, {Kind: 1}}, badTypes()...)
+	source := rand.New(rand.NewSource(6))
+	for range 5000 {
+		l := &loan{}
+		a, b := make([]impl.Value, source.Intn(6)), make([]impl.Value, source.Intn(6))
+		for i := range a {
+			a[i] = list[source.Intn(len(list))]
+		}
+		for i := range b {
+			b[i] = list[source.Intn(len(list))]
+		}
+		kinds := make([]impl.Type, source.Intn(6))
+		for i := range kinds {
+			kinds[i] = types[source.Intn(len(types))]
+		}
+		cols, downs := make([]int, source.Intn(4)), make([]bool, source.Intn(4))
+		for i := range cols {
+			cols[i] = source.Intn(8) - 1
+		}
+		text := []string{"", "\x03\x81\x41\x02\x00\x03\x7f\xbe\xfd\xff", "\x01\x01", "1\n1.5\n", "null\n", "\xff"}[source.Intn(6)]
+		calls := rowCalls(lent(l, kinds, impl.Type{Kind: 1}), l.row(a), l.row(b), lent(l, cols, 77), lent(l, downs, true), text)
+		for name, call := range calls {
+			asked(t, l, call, name, kinds, a, b, cols, downs, text)
+		}
+	}
+}
+
+// Rows of numbers: what is read has a list of limbs for each of them.
+func TestRowsThatAreReadAreApart(t *testing.T) {
+	num := impl.Type{Kind: impl.KindNum, Digits: 30}
+	value := numValue(decFrom("123456789012345678901234567890", 0))
+	row := []impl.Value{value, value, value, value}
+	types := []impl.Type{num, num, num, num}
+	l := &loan{}
+	text := wantLines(row)
+	read, ok := impl.RowGet(types, text)
+	if !ok {
+		t.Fatal(text)
+	}
+	for _, a := range bigsOf(read) {
+		l.rooms = append(l.rooms, a.Limbs)
+	}
+	l.stays = append(l.stays, func() bool { return sameRow(read, row) })
+	asked(t, l, func() []impl.Big { row, _ := impl.RowGet(types, text); return bigsOf(row) }, "RowGet")
+	key := wantKey(value, false) + wantKey(value, true)
+	asked(t, l, func() []impl.Big { row, _ := impl.KeyRead(key, []bool{false, true}); return bigsOf(row) }, "KeyRead")
+	for _, down := range bothWays {
+		asked(t, l, func() []impl.Big {
+			v, _, _ := impl.KeyGet(wantKey(value, down), down)
+			w, _, _ := impl.KeyGet(wantKey(value, down), down)
+			return []impl.Big{v.Num.Num, w.Num.Num}
+		}, "KeyGet", down)
+	}
+	asked(t, l, func() []impl.Big {
+		v, _ := impl.ValueGet(wantPut(value))
+		w, _ := impl.ValueGet(wantPut(value))
+		return []impl.Big{v.Num.Num, w.Num.Num}
+	}, "ValueGet")
 }
