@@ -181,6 +181,18 @@ func badDisks() []impl.Disk {
 	return list
 }
 
+// wantDiskOk says whether a disk is ok.
+func wantDiskOk(d impl.Disk) bool {
+	ok := len(d.Cells) == 42 && len(d.Waits) <= 100 && d.Room >= -1 && d.Left >= -1
+	for _, text := range d.Cells {
+		ok = ok && len(text) <= 1200
+	}
+	for _, w := range d.Waits {
+		ok = ok && w.At >= 0 && w.At <= 41 && len(w.Text) <= 1200
+	}
+	return ok
+}
+
 func mustDisk(t *testing.T, got, want impl.Disk, what ...any) {
 	t.Helper()
 	if !sameDisk(got, want) {

@@ -199,7 +199,15 @@ func (k *knot) parts() []impl.Part {
 // wantExprGet reads an expression.
 func wantExprGet(s string) ([]impl.Part, bool) {
 	words, ok := wantSplit(s)
-	if deep := deepest(words); !ok || deep < 0 || deep > 20 {
+	if !ok {
+		return nil, false
+	}
+	return wantExprWords(words)
+}
+
+// wantExprWords is the expression that words are.
+func wantExprWords(words []string) ([]impl.Part, bool) {
+	if deep := deepest(words); deep < 0 || deep > 20 {
 		return nil, false
 	}
 	k := orKnot(words)

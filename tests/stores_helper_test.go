@@ -99,8 +99,11 @@ func wantGroup(log []*logged, turn, from int) (int, int) {
 	return 0, 0
 }
 
-// wantRead is what a disk that is ok tells.
+// wantRead is what a disk tells.
 func wantRead(d impl.Disk) (impl.Store, bool) {
+	if !wantDiskOk(d) {
+		return impl.Store{}, false
+	}
 	s := impl.Store{Disk: d, Turn: wantTurn(d), Pages: slices.Clone(d.Cells[2:22])}
 	if len(d.Waits) > 0 || s.Turn == 0 {
 		return impl.Store{}, false
